@@ -109,11 +109,16 @@ def forced_by(game, who):
     return steps
 
 
-def best_move(game, state):
-    """The best move of a state that has one."""
+def forced_by_each(game):
+    """What the first can force, then what the second can."""
+    return (forced_by(game, 0), forced_by(game, 1))
+
+
+def best_move(game, state, forced):
+    """The best move of a state that has one; forced is what forced_by_each tells of the game."""
     moves = moves_in(game, state)
-    own = forced_by(game, state % 2)
-    others = forced_by(game, 1 - state % 2)
+    own = forced[state % 2]
+    others = forced[1 - state % 2]
     winning = [move for move in moves if state_behind(game, state, move) in own]
     # Moves rise, and of equals min and max take the first: that is the lowest.
     if len(winning) > 0:
@@ -122,3 +127,15 @@ def best_move(game, state):
     if len(safe) > 0:
         return safe[0]
     return max(moves, key=lambda move: others[state_behind(game, state, move)])
+
+
+def best_line(game, state, most):
+    """The moves from a state on, if both always make the best one: till there's none, or so many."""
+    # No move changes who can force what from where, so one search serves the whole line.
+    forced = forced_by_each(game)
+    made = []
+    while len(made) < most and len(moves_in(game, state)) > 0:
+        move = best_move(game, state, forced)
+        made.append(move)
+        state = state_behind(game, state, move)
+    return made

@@ -1,17 +1,23 @@
 """A house, the calls on it, and how they are read from one list of numbers."""
 
-from againstother.force import Act, Game, are_facts, best_move, forced_by, moves_in, state_of, winner
+from againstother.force import Act, Game, are_facts, best_line, best_move, count_of_states, forced_by
+from againstother.force import forced_by_each, moves_in, state_behind, state_of, winner
 
 BEGINS = 0
 ACT = 1
 AT = 2
 VALUE = 3
+BEST = 4
+LINE = 5
+MOVE = 6
+ANSWER = 7
 
 # How many whole numbers stand behind a call's own number; act's row comes with its own count.
-SIZES = (5, 0, 2, 0, 0)
+SIZES = (5, 0, 2, 0, 0, 1, 1, 0, 0)
 
 MOST_FACTS = 4
 MOST_ACTS = 10
+MOST_OF_LINE = 40
 NUMBERS_OF_ACT = 5
 
 WRONG = -1
@@ -66,7 +72,37 @@ class House:
         moves = moves_in(self.game, self.state)
         if len(moves) == 0:
             return [NO_MOVE]
-        return [best_move(self.game, self.state), len(moves)]
+        return [self.best_now(), len(moves)]
+
+    def line(self, most):
+        if most > MOST_OF_LINE:
+            return [WRONG]
+        moves = best_line(self.game, self.state, most)
+        return [len(moves)] + moves
+
+    def move(self, number):
+        if number not in moves_in(self.game, self.state):
+            return [NO_MOVE]
+        return self.make(number)
+
+    def answer(self):
+        if len(moves_in(self.game, self.state)) == 0:
+            return [NO_MOVE]
+        number = self.best_now()
+        return [number] + self.make(number)
+
+    def counts(self):
+        first = len(forced_by(self.game, 0))
+        second = len(forced_by(self.game, 1))
+        return [first, second, count_of_states(self.game) - first - second]
+
+    def best_now(self):
+        return best_move(self.game, self.state, forced_by_each(self.game))
+
+    def make(self, number):
+        """Makes a move that there is; who has won by it, what's so and whose turn it is."""
+        self.state = state_behind(self.game, self.state, number)
+        return [winner(self.game, self.state), self.state // 2, self.state % 2]
 
 
 def is_wish(facts, wanted):
@@ -88,7 +124,15 @@ def answer_of(house, call, told):
         return house.at(told[0], told[1])
     if call == VALUE:
         return house.value()
-    return house.best()
+    if call == BEST:
+        return house.best()
+    if call == LINE:
+        return house.line(told[0])
+    if call == MOVE:
+        return house.move(told[0])
+    if call == ANSWER:
+        return house.answer()
+    return house.counts()
 
 
 def answers(calls):

@@ -3,7 +3,7 @@
 from againstother.house import answers
 
 TOP = 4294967295
-SEARCHING = (3, 4)
+SEARCHING = (3, 4, 5, 7, 8)
 
 
 def begins(facts, first_wants, second_wants, first_may=0, second_may=0):
@@ -24,6 +24,22 @@ def value():
 
 def best():
     return [4]
+
+
+def line(most):
+    return [5, most]
+
+
+def move(k):
+    return [6, k]
+
+
+def answer():
+    return [7]
+
+
+def counts():
+    return [8]
 
 
 def in_bounds(calls, numbers):

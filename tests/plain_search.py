@@ -11,6 +11,10 @@ def facts_of(number):
     return frozenset(k for k in range(4) if number // 2 ** k % 2 == 1)
 
 
+def number_of(so):
+    return sum(2 ** k for k in so)
+
+
 class PlainHouse:
     def __init__(self, facts, wants, may, acts):
         self.facts = facts
@@ -77,3 +81,29 @@ class PlainHouse:
         if safe:
             return [min(safe), len(moves)]
         return [min((-least, number) for least, number in others)[1], len(moves)]
+
+    def move(self, so, turn, number):
+        """The state behind a move; None if it's none of the moves."""
+        for known, behind, other in self.moves(so, turn):
+            if known == number:
+                return behind, other
+        return None
+
+    def line(self, so, turn, most):
+        made = []
+        state = (so, turn)
+        while len(made) < most:
+            told = self.best(*state)
+            if told == [-5]:
+                break
+            made.append(told[0])
+            state = self.move(*state, told[0])
+        return [len(made), *made]
+
+    def counts(self):
+        found = [0, 0, 0]
+        for number in range(2 ** self.facts):
+            for turn in (0, 1):
+                who = self.value(facts_of(number), turn)[0]
+                found[{1: 0, 2: 1, 0: 2}[who]] += 1
+        return found

@@ -7,7 +7,7 @@ import unittest
 from againstother.house import answers
 from asking import TOP
 
-# begins, three acts (the last one refused), at, value, best; then each refusal.
+# begins, three acts (the last one refused), value, best, at; then refusals; then line, move, answer and counts.
 CALLS = [
     0, 3, 3, 4, 0, 1,
     1, 5, 0, 0, 0, 1, 0,
@@ -24,6 +24,15 @@ CALLS = [
     2, 1, 0,
     4,
     3,
+    2, 0, 0,
+    5, 40,
+    5, 41,
+    6, 0,
+    6, TOP,
+    7,
+    8,
+    6, 1,
+    7,
 ]
 GIVEN = [
     1, 0,
@@ -41,6 +50,15 @@ GIVEN = [
     1, 0,
     2, 1, 2,
     2, 1, 1,
+    1, 0,
+    4, 3, 0, 2, 1,
+    1, -1,
+    3, 0, 1, 1,
+    1, -5,
+    4, 2, 0, 1, 0,
+    3, 9, 7, 0,
+    3, 1, 3, 1,
+    1, -5,
 ]
 
 
@@ -54,6 +72,11 @@ class Answers(unittest.TestCase):
         self.assertEqual(answers([1, 0]), [1, -1])
         self.assertEqual(answers([2, 0, 0]), [1, 0])
         self.assertEqual(answers([0, 1, 1, 1, 0, 0]), [1, 0])
+        self.assertEqual(answers([5, 0]), [1, 0])
+        self.assertEqual(answers([5, 41]), [1, -1])
+        self.assertEqual(answers([6, 0]), [1, -5])
+        self.assertEqual(answers([7]), [1, -5])
+        self.assertEqual(answers([8]), [3, 1, 1, 2])
 
     def test_sixty_calls(self):
         self.assertEqual(answers([2, 0, 0] * 60), [1, 0] * 60)
@@ -85,7 +108,7 @@ class Answers(unittest.TestCase):
 
     def test_nothing_is_kept_from_one_time_to_the_next(self):
         self.assertEqual(answers(CALLS), answers(CALLS))
-        fresh = [3, 4, 2, 1, 0, 2, 2, 0, 1, 5, 0, 0, 0, 1, 0]
+        fresh = [3, 4, 5, 40, 7, 8, 6, 0, 2, 1, 0, 2, 2, 0, 1, 5, 0, 0, 0, 1, 0]
         before = answers(fresh)
         answers(CALLS)
         self.assertEqual(answers(fresh), before)

@@ -4,8 +4,9 @@ import itertools
 import random
 import unittest
 
-from asking import act, ask, at, begins, best, value
-from plain_search import PlainHouse, facts_of
+from asking import ask, at, best, value
+from houses import house_by_chance, written
+from plain_search import PlainHouse, facts_of, number_of
 
 STATES_AT_ONCE = 6
 
@@ -16,7 +17,7 @@ def asked(facts, wants, may, acts):
     states = list(itertools.product(range(2 ** facts), (0, 1)))
     for start in range(0, len(states), STATES_AT_ONCE):
         some = states[start:start + STATES_AT_ONCE]
-        calls = [begins(facts, *wants, *may)] + [act(*numbers) for numbers in acts]
+        calls = written(facts, wants, may, acts)
         before = len(calls)
         for so, turn in some:
             calls += [at(so, turn), value(), best()]
@@ -37,23 +38,6 @@ def searched(facts, wants, may, acts):
             plain.best(facts_of(so), turn),
         ]
     return told
-
-
-def small_set(chance, facts):
-    """Mostly few facts, so that acts can be done and more than one is needed."""
-    return chance.randrange(2 ** facts) & chance.randrange(2 ** facts)
-
-
-def house_by_chance(chance):
-    facts = chance.randrange(1, 5)
-    wants = [chance.randrange(1, 2 ** facts) | small_set(chance, facts) for who in (0, 1)]
-    may = [chance.randrange(2), chance.randrange(2)]
-    acts = []
-    for number in range(chance.randrange(11)):
-        sets = [small_set(chance, facts) & chance.randrange(2 ** facts) for k in range(2)]
-        sets += [small_set(chance, facts) for k in range(2)]
-        acts.append([chance.randrange(2), *sets])
-    return facts, wants, may, acts
 
 
 class AgainstPlainSearch(unittest.TestCase):
@@ -82,7 +66,7 @@ class MovesThatAreToldGiveWhatIsTold(unittest.TestCase):
         for (so, turn), (won, (who, count), row) in told.items():
             behind = {}
             for number, facts, other in plain.moves(facts_of(so), turn):
-                behind[number] = tuple(told[sum(2 ** k for k in facts), other][1])
+                behind[number] = tuple(told[number_of(facts), other][1])
             if not behind:
                 self.assertEqual((count, row), (0, [-5]))
                 continue
